@@ -1,0 +1,1 @@
+"""Roofs of houses whose walls stand at right angles: the calls are in rooftold.desk."""

@@ -1,0 +1,6 @@
+"""The errors that stand for refusals, one for each."""
+
+
+# A text is no house's.
+class NoHouse(Exception):
+    pass

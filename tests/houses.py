@@ -1,0 +1,296 @@
+"""Houses for the tests, and the document's words over again, as literally as they can be written.
+
+Nothing here is taken from the program: what it answers is held against what stands here.
+"""
+
+import random
+
+STEPS = {0: (0, -1), 1: (1, 0), 2: (0, 1), 3: (-1, 0)}
+
+# Texts written by hand, with the number of cells and of feet of wall that the plan has.
+HOUSES = {
+    "one cell": ("0,0 1,0 1,1 0,1\n", 1, 4),
+    "bar": ("2,3 7,3 7,4 2,4\n", 5, 12),
+    "block": ("0,0 4,0 4,2 0,2\n", 8, 12),
+    "L": ("0,0 4,0 4,2 2,2 2,3 0,3\n", 10, 14),
+    "T": ("2,0 3,0 3,2 5,2 5,3 0,3 0,2 2,2\n", 7, 16),
+    "U": ("0,0 5,0 5,4 3,4 3,2 2,2 2,4 0,4\n", 18, 22),
+    "cross": ("3,0 6,0 6,3 9,3 9,6 6,6 6,9 3,9 3,6 0,6 0,3 3,3\n", 45, 36),
+    "court": ("0,0 3,0 3,3 0,3\n1,1 1,2 2,2 2,1\n", 8, 16),
+    "wide court": ("5,5 13,5 13,12 5,12\n8,7 8,10 10,10 10,7\n", 50, 40),
+    "courts": ("0,0 9,0 9,5 0,5\n6,1 6,4 8,4 8,1\n2,2 2,3 4,3 4,2\n", 37, 44),
+    "courts in a row": ("0,0 7,0 7,3 0,3\n1,1 1,2 2,2 2,1\n3,1 3,2 4,2 4,1\n5,1 5,2 6,2 6,1\n", 18, 32),
+    "256 cells": ("0,0 16,0 16,16 0,16\n", 256, 64),
+    "south and east edge": ("0,0 64,0 64,64 63,64 63,1 0,1\n", 127, 256),
+    "last cell": ("63,63 64,63 64,64 63,64\n", 1, 4),
+    "north-west corner": ("0,61 2,61 2,63 3,63 3,64 0,64\n", 7, 12),
+}
+
+
+def house_bytes(name):
+    return list(HOUSES[name][0].encode())
+
+
+def in_rows(answer, width):
+    """An answer that begins with a count, as a list of so many tuples."""
+    assert len(answer) == 1 + answer[0] * width, answer
+    return [tuple(answer[1 + n * width:1 + (n + 1) * width]) for n in range(answer[0])]
+
+
+# --- plans
+
+def cells_in_drawing(rows):
+    """Cells of a drawing, its last row being y = 0."""
+    return {(x, y) for y, row in enumerate(reversed(rows)) for x, sign in enumerate(row) if sign == "#"}
+
+
+def is_house(cells):
+    if not 1 <= len(cells) <= 256:
+        return False
+    for x, y in cells:
+        for e in (-1, 1):
+            if (x + e, y + 1) in cells and (x + e, y) not in cells and (x, y + 1) not in cells:
+                return False
+    reached = {min(cells)}
+    edge = set(reached)
+    while edge:
+        edge = {(x + a, y + b) for x, y in edge for a, b in STEPS.values()} & cells - reached
+        reached |= edge
+    return reached == cells
+
+
+def cell_beside(point, heading, turn):
+    """The cell that lies ahead of a point, on the left (turn 0) or on the right (turn 1)."""
+    x, y = point
+    around = [(x - 1, y - 1), (x, y - 1), (x, y), (x - 1, y)]
+    return around[(heading + 1 - turn) % 4]
+
+
+def walk_on(point, heading, cells, tightly):
+    """Where a walk heads behind a point: at a point where cells meet, tightly round its own cell or not."""
+    ahead_left = cell_beside(point, heading, 0) in cells
+    ahead_right = cell_beside(point, heading, 1) in cells
+    if ahead_right and not (tightly and not ahead_left):
+        return (heading + 3) % 4
+    if ahead_left:
+        return heading
+    return (heading + 1) % 4
+
+
+def walks_of(cells, tightly=False):
+    feet = {}
+    for x, y in cells:
+        for side, start in enumerate([(x, y), (x + 1, y), (x + 1, y + 1), (x, y + 1)]):
+            if (x + STEPS[side][0], y + STEPS[side][1]) not in cells:
+                feet[(start, (side + 1) % 4)] = True
+    walks = []
+    for start, heading in sorted(feet, key=lambda foot: (foot[0][1], foot[0][0], foot[1])):
+        corners = []
+        point = start
+        while feet.pop((point, heading), False):
+            point = (point[0] + STEPS[heading][0], point[1] + STEPS[heading][1])
+            turned = walk_on(point, heading, cells, tightly)
+            if turned != heading:
+                corners.append(point)
+            heading = turned
+        if corners:
+            walks.append(corners[-1:] + corners[:-1])
+    return walks
+
+
+def text_of_walks(walks):
+    return list("".join(" ".join(f"{x},{y}" for x, y in walk) + "\n" for walk in walks).encode())
+
+
+def text_of(cells):
+    return text_of_walks(walks_of(cells))
+
+
+def grown_house(seed, count, wide, high, west=0, south=0):
+    """A house of at most so many cells, grown cell by cell; the same for the same seed."""
+    chance = random.Random(seed)
+    cells = {(west + wide // 2, south + high // 2)}
+    for tries in range(count * 6):
+        x, y = chance.choice(sorted(cells))
+        a, b = STEPS[chance.randrange(4)]
+        cell = (x + a, y + b)
+        if len(cells) < count and west <= cell[0] < west + wide and south <= cell[1] < south + high:
+            if is_house(cells | {cell}):
+                cells.add(cell)
+    return cells
+
+
+def block(x, y, wide, high):
+    return {(x + a, y + b) for a in range(wide) for b in range(high)}
+
+
+def built_house(seed):
+    """A house of a few blocks, some with a court broken into them; the same for the same seed."""
+    chance = random.Random(seed)
+    cells = set()
+    while not is_house(cells):
+        cells = set()
+        for part in range(chance.randint(2, 5)):
+            cells |= block(chance.randrange(12), chance.randrange(12), chance.randint(1, 8), chance.randint(1, 8))
+        if seed % 2:
+            cells -= block(chance.randint(2, 9), chance.randint(2, 9), chance.randint(1, 3), chance.randint(1, 3))
+    return cells
+
+
+def stairs():
+    """A house of 256 cells at most with nearly as many corners as there can be: two flights of steps."""
+    lower = {(n, n) for n in range(64)} | {(n + 1, n) for n in range(63)}
+    upper = {(n, n + 4) for n in range(60)} | {(n + 1, n + 4) for n in range(59)}
+    return lower | upper | {(60, 63), (61, 63), (62, 63)}
+
+
+# --- heights, triangles, faces
+
+class LiteralRoof:
+    """The words on heights, triangles, faces and lines, told over a set of cells."""
+
+    def __init__(self, cells):
+        self.cells = cells
+        self.halves = sorted(((2 * x + a, 2 * y + b) for x, y in cells for a in (0, 1) for b in (0, 1)),
+                             key=lambda half: (half[1], half[0]))
+        self.in_house = set(self.halves)
+        self.deep = {half: self.depth(*half) for half in self.halves}
+        self.triangles = [(i, j, s) for i, j in self.halves for s in range(4)]
+        self.faces_to = {triangle: self.facing(*triangle) for triangle in self.triangles}
+        self.faces = self.make_faces()
+        self.number = {triangle: n for n, face in enumerate(self.faces) for triangle in face}
+
+    def all_in(self, i_from, i_to, j_from, j_to):
+        return all((i, j) in self.in_house for i in range(i_from, i_to + 1) for j in range(j_from, j_to + 1))
+
+    def height(self, x, y):
+        h = 0
+        while self.all_in(x - h - 1, x + h, y - h - 1, y + h):
+            h += 1
+        return h
+
+    def depth(self, i, j):
+        k = 0
+        while self.all_in(i - k - 1, i + k + 1, j - k - 1, j + k + 1):
+            k += 1
+        return k
+
+    @staticmethod
+    def ends(i, j, s):
+        """The lesser end of a side (by Y, then by X), then the other."""
+        return {0: ((i, j), (i + 1, j)), 1: ((i + 1, j), (i + 1, j + 1)),
+                2: ((i, j + 1), (i + 1, j + 1)), 3: ((i, j), (i, j + 1))}[s]
+
+    def facing(self, i, j, s):
+        k = self.deep[(i, j)]
+        heights = [self.height(*end) for end in self.ends(i, j, s)]
+        assert set(heights) <= {k, k + 1}
+        if heights == [k, k]:
+            return s
+        if heights == [k + 1, k + 1]:
+            return {0: 2, 1: 3, 2: 0, 3: 1}[s]
+        if s in (0, 2):
+            return 3 if heights[0] == k else 1
+        return 0 if heights[0] == k else 2
+
+    def beside(self, i, j, s):
+        found = [(i, j, (s + 1) % 4), (i, j, (s - 1) % 4)]
+        other = (i + STEPS[s][0], j + STEPS[s][1])
+        if other in self.in_house:
+            found.append(other + ((s + 2) % 4,))
+        return found
+
+    def make_faces(self):
+        faces = []
+        left = set(self.triangles)
+        while left:
+            first = min(left, key=lambda triangle: (triangle[1], triangle[0], triangle[2]))
+            face = {first}
+            edge = {first}
+            while edge:
+                edge = {near for triangle in edge for near in self.beside(*triangle)
+                        if self.faces_to[near] == self.faces_to[first]} - face
+                face |= edge
+            faces.append(face)
+            left -= face
+        return faces
+
+    def is_at_eave(self, i, j, s):
+        beyond = (i + STEPS[s][0], j + STEPS[s][1])
+        return self.faces_to[(i, j, s)] == s and beyond not in self.in_house
+
+    def faces_answer(self):
+        answer = [len(self.faces)]
+        for face in self.faces:
+            i, j, s = min(face, key=lambda triangle: (triangle[1], triangle[0], triangle[2]))
+            eaves = [triangle for triangle in face if self.is_at_eave(*triangle)]
+            answer += [self.faces_to[(i, j, s)], len(face), len(eaves), i, j, s]
+        return answer
+
+    # --- lines, in quarters of a foot till they are told
+
+    def piece_ends(self, one, other):
+        if one[:2] != other[:2]:
+            return frozenset((2 * x, 2 * y) for x, y in self.ends(*one))
+        corner = set(self.ends(*one)) & set(self.ends(*other))
+        (x, y), = corner
+        return frozenset([(2 * x, 2 * y), (2 * one[0] + 1, 2 * one[1] + 1)])
+
+    def kind(self, one, other):
+        f, g = self.faces_to[one], self.faces_to[other]
+        if (f - g) % 4 == 2:
+            return 0
+        seen = {self.runs_toward(one, other), self.runs_toward(other, one)}
+        assert len(seen) == 1, "it comes to the same from either"
+        return 2 if seen == {True} else 1
+
+    def runs_toward(self, one, other):
+        a, b = STEPS[self.faces_to[one]]
+        x, y = self.middle(*one)
+        u, v = self.middle(*other)
+        return (u - x) * a + (v - y) * b > 0
+
+    @staticmethod
+    def middle(i, j, s):
+        """The three corners' sum: the side's ends and the half-cell's middle, doubled."""
+        ends = LiteralRoof.ends(i, j, s)
+        return tuple(2 * ends[0][n] + 2 * ends[1][n] + 2 * (i, j)[n] + 1 for n in (0, 1))
+
+    def pieces(self):
+        found = {}
+        for one in self.triangles:
+            for other in self.beside(*one):
+                pair = sorted([self.number[one], self.number[other]])
+                if pair[0] != pair[1]:
+                    found.setdefault((self.kind(one, other), *pair), set()).add(self.piece_ends(one, other))
+        return found
+
+    def lines_answer(self):
+        rows = []
+        for (kind, lesser, greater), pieces in self.pieces().items():
+            for start, end in rows_joined(pieces):
+                assert all(number % 2 == 0 for number in start + end), "its ends are points"
+                rows.append((kind, lesser, greater, *(number // 2 for number in start + end)))
+        rows.sort(key=lambda row: (row[1], row[2], row[4], row[3]))
+        return [len(rows)] + [number for row in rows for number in row]
+
+
+def slope(piece):
+    (x, y), (u, v) = sorted(piece, key=lambda end: (end[1], end[0]))
+    return (u > x) - (u < x), (v > y) - (v < y)
+
+
+def rows_joined(pieces):
+    """Pieces put together as long as two of one slope have an end in common; from and to of each row."""
+    rows = set(pieces)
+    joined = True
+    while joined:
+        joined = False
+        for one in rows:
+            fits = [other for other in rows if other != one and one & other and slope(one) == slope(other)]
+            if fits:
+                rows -= {one, fits[0]}
+                rows.add(one ^ fits[0])
+                joined = True
+                break
+    return [tuple(sorted(row, key=lambda end: (end[1], end[0]))) for row in rows]

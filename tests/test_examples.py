@@ -1,0 +1,46 @@
+"""The document's examples, number by number."""
+
+import unittest
+
+from rooftold import desk
+from tests.houses import in_rows
+
+O = list(b"0,0 1,0 1,1 0,1\n")
+T = list(b"0,0 4,0 4,2 2,2 2,3 0,3\n")
+
+
+class Examples(unittest.TestCase):
+    def test_faces_of_one_cell(self):
+        told = [4, 0, 4, 2, 0, 0, 0, 3, 4, 2, 0, 0, 2, 1, 4, 2, 1, 0, 1, 2, 4, 2, 0, 1, 1]
+        self.assertEqual(desk.faces(O), told)
+
+    def test_lines_of_one_cell(self):
+        told = [4, 1, 0, 1, 0, 0, 1, 1, 1, 0, 2, 2, 0, 1, 1, 1, 1, 3, 1, 1, 0, 2, 1, 2, 3, 1, 1, 2, 2]
+        self.assertEqual(desk.lines(O), told)
+
+    def test_face_refuses(self):
+        self.assertEqual(desk.face(2, 0, 0, O), [-5])
+        self.assertEqual(desk.face(0, 0, 4, O), [-3])
+
+    def test_the_one_valley(self):
+        valleys = [row for row in in_rows(desk.lines(T), 7) if row[0] == 2]
+        self.assertEqual([row[3:] for row in valleys], [(2, 2, 4, 4)])
+
+    def test_face_of_each_triangle_of_one_cell(self):
+        # By hand: the south face has (0, 0, 0), (0, 0, 1), (1, 0, 0) and (1, 0, 3), and so on round.
+        told = {0: [(0, 0, 0), (0, 0, 1), (1, 0, 0), (1, 0, 3)],
+                1: [(0, 0, 2), (0, 0, 3), (0, 1, 0), (0, 1, 3)],
+                2: [(1, 0, 1), (1, 0, 2), (1, 1, 0), (1, 1, 1)],
+                3: [(0, 1, 1), (0, 1, 2), (1, 1, 2), (1, 1, 3)]}
+        for number, triangles in told.items():
+            for triangle in triangles:
+                self.assertEqual(desk.face(*triangle, O), [number], triangle)
+
+    def test_arguments_by_name(self):
+        self.assertEqual(desk.face(i=1, j=1, s=3, t=O), [3])
+        self.assertEqual(desk.faces(t=O)[0], 4)
+        self.assertEqual(desk.lines(t=O)[0], 4)
+
+
+if __name__ == "__main__":
+    unittest.main()

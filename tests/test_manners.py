@@ -1,0 +1,84 @@
+"""How the calls behave: nothing handed in is changed, nothing is kept, nothing is printed."""
+
+import contextlib
+import inspect
+import io
+import sys
+import unittest
+
+from rooftold import desk
+from tests.houses import HOUSES, house_bytes, stairs, text_of
+
+TEXTS = [house_bytes(name) for name in HOUSES] + [text_of(stairs()), [], [10], list(b"0,0 1,0 1,1 0,1"), [48] * 4096]
+
+
+class Untouchable(list):
+    """A list that can be read alone."""
+
+    def refuse(self, *given, **named):
+        raise AssertionError("what is handed in was changed")
+
+    append = extend = insert = pop = remove = clear = sort = reverse = refuse
+    __setitem__ = __delitem__ = __iadd__ = __imul__ = refuse
+
+
+def calls(text):
+    return [desk.faces(text), desk.lines(text), desk.face(0, 0, 0, text), desk.face(0, 0, 4, text),
+            desk.face(127, 127, 3, text)]
+
+
+class Manners(unittest.TestCase):
+    def test_nothing_handed_in_is_changed(self):
+        for text in TEXTS:
+            handed = Untouchable(text)
+            told = calls(list(text))
+            self.assertEqual(calls(handed), told)
+            self.assertEqual(list(handed), text)
+
+    def test_the_same_call_gives_the_same_answer(self):
+        first = [calls(text) for text in TEXTS]
+        backward = [calls(text) for text in reversed(TEXTS)]
+        self.assertEqual(first, backward[::-1])
+
+    def test_an_answer_that_is_changed_changes_no_later_one(self):
+        for text in TEXTS:
+            before = calls(text)
+            for answer in calls(text):
+                answer.clear()
+            self.assertEqual(calls(text), before)
+
+    def test_answers_are_lists_of_whole_numbers(self):
+        for text in TEXTS:
+            for answer in calls(text):
+                self.assertIs(type(answer), list)
+                self.assertGreater(len(answer), 0)
+                self.assertTrue(all(type(number) is int for number in answer))
+                self.assertTrue(answer[0] >= 0 or len(answer) == 1)
+
+    def test_nothing_is_printed(self):
+        out, err = io.StringIO(), io.StringIO()
+        with contextlib.redirect_stdout(out), contextlib.redirect_stderr(err):
+            for text in TEXTS:
+                calls(text)
+        self.assertEqual((out.getvalue(), err.getvalue()), ("", ""))
+
+    def test_names_and_order_of_the_arguments(self):
+        self.assertEqual(list(inspect.signature(desk.faces).parameters), ["t"])
+        self.assertEqual(list(inspect.signature(desk.face).parameters), ["i", "j", "s", "t"])
+        self.assertEqual(list(inspect.signature(desk.lines).parameters), ["t"])
+
+    def test_calls_are_not_nested_deep(self):
+        # With room for few calls within one another the longest texts still get their answers.
+        limit = sys.getrecursionlimit()
+        depth = len(inspect.stack(0))
+        told = [calls(text) for text in TEXTS]
+        try:
+            sys.setrecursionlimit(depth + 40)
+            got = [calls(text) for text in TEXTS]
+        finally:
+            sys.setrecursionlimit(limit)
+        self.assertEqual(got, told)
+
+
+if __name__ == "__main__":
+    unittest.main()
