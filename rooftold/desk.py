@@ -1,16 +1,49 @@
 """The calls. Each gives back a list of whole numbers; a refusal is its number alone."""
 
 from rooftold.plans import house_told
-from rooftold.refusals import NoHouse
+from rooftold.rain import drop_row, wall_rows
+from rooftold.refusals import NoFace, OutOfBounds, Outside, answer_or_refusal
 from rooftold.ridges import line_rows
 from rooftold.roofs import Roof, face_rows
+from rooftold.tiling import is_size, places_on, whole_and_cut
 
 GREATEST_HALF = 127
 GREATEST_SIDE = 3
 
 
-def is_within_bounds(i, j, s):
-    return i <= GREATEST_HALF and j <= GREATEST_HALF and s <= GREATEST_SIDE
+def check_triangle(i, j, s):
+    if i > GREATEST_HALF or j > GREATEST_HALF or s > GREATEST_SIDE:
+        raise OutOfBounds()
+
+
+def check_size(W, H):
+    if not is_size(W, H):
+        raise OutOfBounds()
+
+
+def roof_told(t):
+    return Roof(house_told(t))
+
+
+def roof_with_triangle(i, j, s, t):
+    check_triangle(i, j, s)
+    told = roof_told(t)
+    if (i, j) not in told.depths:
+        raise Outside()
+    return told
+
+
+def roof_with_face(k, t):
+    told = roof_told(t)
+    if k >= len(told.faces):
+        raise NoFace()
+    return told
+
+
+def places_to_tile(k, W, H, t):
+    check_size(W, H)
+    told = roof_with_face(k, t)
+    return places_on(told.faces[k], told)
 
 
 def counted(rows):
@@ -21,28 +54,24 @@ def counted(rows):
 
 
 def faces(t):
-    try:
-        cells = house_told(t)
-    except NoHouse:
-        return [-1]
-    return counted(face_rows(Roof(cells)))
+    return answer_or_refusal(lambda: counted(face_rows(roof_told(t))))
 
 
 def face(i, j, s, t):
-    if not is_within_bounds(i, j, s):
-        return [-3]
-    try:
-        cells = house_told(t)
-    except NoHouse:
-        return [-1]
-    if (i // 2, j // 2) not in cells:
-        return [-5]
-    return [Roof(cells).numbers[(i, j, s)]]
+    return answer_or_refusal(lambda: [roof_with_triangle(i, j, s, t).numbers[(i, j, s)]])
 
 
 def lines(t):
-    try:
-        cells = house_told(t)
-    except NoHouse:
-        return [-1]
-    return counted(line_rows(Roof(cells)))
+    return answer_or_refusal(lambda: counted(line_rows(roof_told(t))))
+
+
+def drop(i, j, s, t):
+    return answer_or_refusal(lambda: drop_row((i, j, s), roof_with_triangle(i, j, s, t)))
+
+
+def walls(t):
+    return answer_or_refusal(lambda: counted(wall_rows(roof_told(t))))
+
+
+def tiles(k, W, H, t):
+    return answer_or_refusal(lambda: whole_and_cut(places_to_tile(k, W, H, t), W, H))

@@ -96,6 +96,25 @@ def walks_round(cells):
     return walks
 
 
+def feet_between(corner, following, headings):
+    feet = []
+    point = corner
+    while point != following:
+        feet.append(point)
+        point = beyond(point, headings[point])
+    return feet
+
+
+# Of each wall, in order, the points at which its feet begin: the first of them is its corner.
+def walls_round(cells):
+    headings = headings_along_walls(cells)
+    walls = []
+    for walk in walks_round(cells):
+        for number, corner in enumerate(walk):
+            walls.append(feet_between(corner, walk[(number + 1) % len(walk)], headings))
+    return walls
+
+
 # A house has one text alone. So whatever cells are found within walks that are told wrong, the walks
 # round these cells are others, and how they are wrong needs no look.
 def house_told(t):

@@ -4,15 +4,18 @@ from rooftold.compass import ALL_SIDES, beyond, left_of, opposite, right_of, sid
 from rooftold.heights import depths_of, heights_of
 
 
-# depths: of each half-cell how deep it lies; heights: of each corner of these how high it is;
-# facings: of each triangle which way it faces; numbers: of each triangle its face's number.
+# cells: the house; depths: of each half-cell how deep it lies; heights: of each corner of these how high it is;
+# facings: of each triangle which way it faces; numbers: of each triangle its face's number;
+# faces: the triangles of each face.
 # The facings are in order by j, then i, then s: the faces' numbers rest on that.
 class Roof:
     def __init__(self, cells):
+        self.cells = cells
         self.depths = depths_of(cells)
         self.heights = heights_of(self.depths)
         self.facings = facings_of(self.depths, self.heights)
         self.numbers = numbers_of(self.facings)
+        self.faces = faces_of(self.numbers)
 
 
 def facing_of(half, side, depth, heights):
@@ -71,6 +74,16 @@ def numbers_of(facings):
             number_face(triangle, count, facings, numbers)
             count += 1
     return numbers
+
+
+# Faces are numbered one behind the other, so a new number is the next one.
+def faces_of(numbers):
+    faces = []
+    for triangle, number in numbers.items():
+        if number == len(faces):
+            faces.append([])
+        faces[number].append(triangle)
+    return faces
 
 
 def is_at_eave(triangle, facings):

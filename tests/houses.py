@@ -4,6 +4,7 @@ Nothing here is taken from the program: what it answers is held against what sta
 """
 
 import random
+from collections import Counter
 
 STEPS = {0: (0, -1), 1: (1, 0), 2: (0, 1), 3: (-1, 0)}
 
@@ -31,13 +32,51 @@ def house_bytes(name):
     return list(HOUSES[name][0].encode())
 
 
+def walks_in(name):
+    return [[tuple(map(int, corner.split(","))) for corner in line.split(" ")]
+            for line in HOUSES[name][0].splitlines()]
+
+
+def cells_of(name):
+    """The cells of a house written by hand: those whose middle lies within its walks."""
+    walks = walks_in(name)
+    return {(x, y) for x in range(64) for y in range(64) if sum(walls_west(walk, x, y) for walk in walks) % 2}
+
+
+def walls_west(walk, x, y):
+    return sum(a == u and a <= x and min(b, v) <= y < max(b, v) for (a, b), (u, v) in zip(walk, walk[1:] + walk[:1]))
+
+
 def in_rows(answer, width):
     """An answer that begins with a count, as a list of so many tuples."""
     assert len(answer) == 1 + answer[0] * width, answer
     return [tuple(answer[1 + n * width:1 + (n + 1) * width]) for n in range(answer[0])]
 
 
+def answers_over(call, triangles, text, pool):
+    """What a call of i, j, s and t answers for each of these triangles."""
+    columns = [[triangle[n] for triangle in triangles] for n in range(3)]
+    return dict(zip(triangles, pool.map(call, *columns, [text] * len(triangles), chunksize=128)))
+
+
+def every_call(desk, text):
+    """Each call's answer, all else than the text being right wherever there's a face and a first cell."""
+    return [desk.faces(text), desk.face(0, 0, 0, text), desk.lines(text), desk.drop(0, 0, 0, text), desk.walls(text),
+            desk.tiles(0, 2, 1, text)]
+
+
 # --- plans
+
+def all_triangles(cells):
+    return [(2 * x + a, 2 * y + b, s) for x, y in sorted(cells) for a in (0, 1) for b in (0, 1) for s in range(4)]
+
+
+def small_houses(wide, high):
+    """Every house within so many cells."""
+    places = [(x, y) for y in range(high) for x in range(wide)]
+    chosen = [{place for n, place in enumerate(places) if number >> n & 1} for number in range(1, 1 << len(places))]
+    return [cells for cells in chosen if is_house(cells)]
+
 
 def cells_in_drawing(rows):
     """Cells of a drawing, its last row being y = 0."""
@@ -147,27 +186,32 @@ def stairs():
 # --- heights, triangles, faces
 
 class LiteralRoof:
-    """The words on heights, triangles, faces and lines, told over a set of cells."""
+    """The words on heights, triangles, faces, lines, rain and tiles, told over a set of cells."""
 
     def __init__(self, cells):
         self.cells = cells
         self.halves = sorted(((2 * x + a, 2 * y + b) for x, y in cells for a in (0, 1) for b in (0, 1)),
                              key=lambda half: (half[1], half[0]))
         self.in_house = set(self.halves)
+        self.high = {}
         self.deep = {half: self.depth(*half) for half in self.halves}
         self.triangles = [(i, j, s) for i, j in self.halves for s in range(4)]
         self.faces_to = {triangle: self.facing(*triangle) for triangle in self.triangles}
         self.faces = self.make_faces()
         self.number = {triangle: n for n, face in enumerate(self.faces) for triangle in face}
+        # Of each wall its corner and the next one, in feet.
+        self.walls = [(corner, walk[(n + 1) % len(walk)]) for walk in walks_of(cells) for n, corner in enumerate(walk)]
 
     def all_in(self, i_from, i_to, j_from, j_to):
         return all((i, j) in self.in_house for i in range(i_from, i_to + 1) for j in range(j_from, j_to + 1))
 
     def height(self, x, y):
-        h = 0
-        while self.all_in(x - h - 1, x + h, y - h - 1, y + h):
-            h += 1
-        return h
+        if (x, y) not in self.high:
+            h = 0
+            while self.all_in(x - h - 1, x + h, y - h - 1, y + h):
+                h += 1
+            self.high[(x, y)] = h
+        return self.high[(x, y)]
 
     def depth(self, i, j):
         k = 0
@@ -273,6 +317,80 @@ class LiteralRoof:
                 rows.append((kind, lesser, greater, *(number // 2 for number in start + end)))
         rows.sort(key=lambda row: (row[1], row[2], row[4], row[3]))
         return [len(rows)] + [number for row in rows for number in row]
+
+    # --- rain
+
+    def valley_foot(self, i, j):
+        """The foot of a valley's half-cell; None, if it's none."""
+        corners = [(i, j), (i + 1, j), (i, j + 1), (i + 1, j + 1)]
+        low = [corner for corner in corners if self.height(*corner) == self.deep[(i, j)]]
+        high = [corner for corner in corners if self.height(*corner) == self.deep[(i, j)] + 1]
+        assert len(low) + len(high) == 4 and len(high) in (1, 2, 3)
+        return low[0] if len(high) == 3 else None
+
+    def water_end(self, i, j, s):
+        """(0, i, j, side) of an eave or (1, X, Y) of a corner."""
+        passed = set()
+        while True:
+            assert (i, j, s) not in passed, "every triangle's water has one end"
+            passed.add((i, j, s))
+            foot = self.valley_foot(i, j)
+            if foot is None:
+                f = self.faces_to[(i, j, s)]
+                beyond = (i + STEPS[f][0], j + STEPS[f][1])
+                if beyond not in self.in_house:
+                    return (0, i, j, f)
+                i, j, s = *beyond, (f + 2) % 4
+            else:
+                if self.height(*foot) == 0:
+                    return (1, *foot)
+                x, y = foot
+                (i, j), = [(a, b) for a in (x - 1, x) for b in (y - 1, y) if a != i and b != j]
+                assert self.valley_foot(i, j) is not None, "that's a valley's, too"
+                s = (s + 1) % 4
+
+    def end_number(self, end):
+        if end[0] == 1:
+            found = [n for n, ((x, y), other) in enumerate(self.walls) if (2 * x, 2 * y) == end[1:]]
+        else:
+            found = [n for n, wall in enumerate(self.walls)
+                     if all(lies_on(point, *wall) for point in self.ends(*end[1:]))]
+        assert len(found) == 1, end
+        return found[0]
+
+    def drop_answer(self, triangle):
+        end = self.water_end(*triangle)
+        return [*end, self.end_number(end)]
+
+    def walls_answer(self):
+        ends = Counter(self.water_end(*triangle) for triangle in self.triangles)
+        rows = [[0, 0, abs(u - x) + abs(v - y)] for (x, y), (u, v) in self.walls]
+        for end, count in ends.items():
+            rows[self.end_number(end)][end[0]] += count
+        return [len(rows)] + [number for row in rows for number in row]
+
+    # --- tiles
+
+    def tile(self, triangle, wide, high):
+        """Course and number of the tile over a triangle."""
+        i, j, s = triangle
+        q = self.deep[(i, j)] // high
+        a = i if self.faces_to[triangle] in (0, 2) else j
+        d = 0 if q % 2 == 0 else wide // 2
+        return q, (a + d) // wide
+
+    def tiles_on(self, k, wide, high):
+        """How many triangles of the face lie under each tile."""
+        return Counter(self.tile(triangle, wide, high) for triangle in self.faces[k])
+
+    def tiles_answer(self, k, wide, high):
+        counts = self.tiles_on(k, wide, high).values()
+        return [sum(count == 4 * wide * high for count in counts), sum(count < 4 * wide * high for count in counts)]
+
+
+def lies_on(point, corner, other):
+    """If a point, in halves, lies on the wall between two corners, in feet."""
+    return all(2 * min(corner[n], other[n]) <= point[n] <= 2 * max(corner[n], other[n]) for n in (0, 1))
 
 
 def slope(piece):

@@ -7,6 +7,7 @@ from tests.houses import in_rows
 
 O = list(b"0,0 1,0 1,1 0,1\n")
 T = list(b"0,0 4,0 4,2 2,2 2,3 0,3\n")
+BLOCK = list(b"0,0 4,0 4,2 0,2\n")
 
 
 class Examples(unittest.TestCase):
@@ -26,6 +27,20 @@ class Examples(unittest.TestCase):
         valleys = [row for row in in_rows(desk.lines(T), 7) if row[0] == 2]
         self.assertEqual([row[3:] for row in valleys], [(2, 2, 4, 4)])
 
+    def test_rain_on_one_cell(self):
+        self.assertEqual(desk.drop(0, 0, 1, O), [0, 0, 0, 0, 0])
+        self.assertEqual(desk.walls(O), [4, 4, 0, 1, 4, 0, 1, 4, 0, 1, 4, 0, 1])
+
+    def test_rain_that_ends_at_a_corner(self):
+        self.assertEqual(desk.drop(3, 3, 0, T), [1, 4, 4, 3])
+
+    def test_tiles(self):
+        self.assertEqual(desk.tiles(0, 2, 1, O), [0, 1])
+        self.assertEqual(desk.tiles(0, 2, 1, BLOCK), [3, 4])
+        self.assertEqual(desk.tiles(0, 2, 2, BLOCK), [2, 2])
+        self.assertEqual(desk.tiles(0, 3, 1, BLOCK), [-3])
+        self.assertEqual(desk.tiles(4, 2, 1, BLOCK), [-6])
+
     def test_face_of_each_triangle_of_one_cell(self):
         # By hand: the south face has (0, 0, 0), (0, 0, 1), (1, 0, 0) and (1, 0, 3), and so on round.
         told = {0: [(0, 0, 0), (0, 0, 1), (1, 0, 0), (1, 0, 3)],
@@ -40,6 +55,9 @@ class Examples(unittest.TestCase):
         self.assertEqual(desk.face(i=1, j=1, s=3, t=O), [3])
         self.assertEqual(desk.faces(t=O)[0], 4)
         self.assertEqual(desk.lines(t=O)[0], 4)
+        self.assertEqual(desk.drop(i=3, j=3, s=0, t=T), [1, 4, 4, 3])
+        self.assertEqual(desk.walls(t=O)[0], 4)
+        self.assertEqual(desk.tiles(k=0, W=2, H=1, t=BLOCK), [3, 4])
 
 
 if __name__ == "__main__":

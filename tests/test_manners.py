@@ -7,7 +7,7 @@ import sys
 import unittest
 
 from rooftold import desk
-from tests.houses import HOUSES, house_bytes, stairs, text_of
+from tests.houses import HOUSES, every_call, house_bytes, stairs, text_of
 
 TEXTS = [house_bytes(name) for name in HOUSES] + [text_of(stairs()), [], [10], list(b"0,0 1,0 1,1 0,1"), [48] * 4096]
 
@@ -22,9 +22,15 @@ class Untouchable(list):
     __setitem__ = __delitem__ = __iadd__ = __imul__ = refuse
 
 
+ARGUMENTS = {"faces": "t", "face": "i j s t", "lines": "t", "drop": "i j s t", "walls": "t", "tiles": "k W H t"}
+
+
 def calls(text):
-    return [desk.faces(text), desk.lines(text), desk.face(0, 0, 0, text), desk.face(0, 0, 4, text),
-            desk.face(127, 127, 3, text)]
+    """Every call, and some that come to each of the refusals."""
+    return every_call(desk, text) + [
+        desk.face(0, 0, 4, text), desk.face(127, 127, 3, text), desk.drop(128, 0, 0, text),
+        desk.drop(127, 127, 3, text), desk.tiles(3, 64, 64, text), desk.tiles(0, 3, 1, text),
+        desk.tiles(4294967295, 2, 1, text)]
 
 
 class Manners(unittest.TestCase):
@@ -63,9 +69,8 @@ class Manners(unittest.TestCase):
         self.assertEqual((out.getvalue(), err.getvalue()), ("", ""))
 
     def test_names_and_order_of_the_arguments(self):
-        self.assertEqual(list(inspect.signature(desk.faces).parameters), ["t"])
-        self.assertEqual(list(inspect.signature(desk.face).parameters), ["i", "j", "s", "t"])
-        self.assertEqual(list(inspect.signature(desk.lines).parameters), ["t"])
+        for name, arguments in ARGUMENTS.items():
+            self.assertEqual(list(inspect.signature(getattr(desk, name)).parameters), arguments.split(), name)
 
     def test_calls_are_not_nested_deep(self):
         # With room for few calls within one another the longest texts still get their answers.

@@ -4,36 +4,14 @@ import unittest
 from concurrent.futures import ProcessPoolExecutor
 
 from rooftold import desk
-from tests.houses import HOUSES, STEPS, LiteralRoof, built_house, grown_house, in_rows, text_of
+from tests.houses import (HOUSES, STEPS, LiteralRoof, all_triangles, answers_over, built_house, cells_of, grown_house,
+                          in_rows, text_of)
 
 GROWN = [grown_house(seed, 8 + 5 * seed, 7, 6, west=seed) for seed in range(6)] + [built_house(n) for n in range(4)]
 
 
 def by_row(triangle):
     return triangle[1], triangle[0], triangle[2]
-
-
-def all_triangles(cells):
-    return [(2 * x + a, 2 * y + b, s) for x, y in sorted(cells) for a in (0, 1) for b in (0, 1) for s in range(4)]
-
-
-def faces_asked(cells, pool):
-    """What face answers for every triangle of a house."""
-    triangles = all_triangles(cells)
-    count = len(triangles)
-    columns = [[triangle[n] for triangle in triangles] for n in range(3)]
-    return dict(zip(triangles, pool.map(desk.face, *columns, [text_of(cells)] * count, chunksize=128)))
-
-
-def cells_of(name):
-    """The cells of a house written by hand: those whose middle lies within its walks."""
-    walks = [[tuple(map(int, corner.split(","))) for corner in line.split(" ")]
-             for line in HOUSES[name][0].splitlines()]
-    return {(x, y) for x in range(64) for y in range(64) if sum(walls_west(walk, x, y) for walk in walks) % 2}
-
-
-def walls_west(walk, x, y):
-    return sum(a == u and a <= x and min(b, v) <= y < max(b, v) for (a, b), (u, v) in zip(walk, walk[1:] + walk[:1]))
 
 
 def feet_of_wall(cells):
@@ -46,7 +24,8 @@ class Promises(unittest.TestCase):
         cls.plans = {name: cells_of(name) for name in HOUSES}
         cls.plans.update({f"grown {n}": cells for n, cells in enumerate(GROWN)})
         with ProcessPoolExecutor() as pool:
-            cls.asked = {name: faces_asked(cells, pool) for name, cells in cls.plans.items()}
+            cls.asked = {name: answers_over(desk.face, all_triangles(cells), text_of(cells), pool)
+                         for name, cells in cls.plans.items()}
         cls.faces = {name: in_rows(desk.faces(text_of(cells)), 6) for name, cells in cls.plans.items()}
 
     def test_the_houses_are_what_they_are_called(self):

@@ -1,13 +1,12 @@
-"""faces, face and lines held against the document's words, told over literally, on many houses."""
+"""What the calls answer, held against the document's words, told over literally, on many houses."""
 
-import itertools
 import unittest
 
 from rooftold import desk
-from tests.houses import (LiteralRoof, block, built_house, cells_in_drawing, grown_house, in_rows, is_house, stairs,
+from tests.houses import (LiteralRoof, block, built_house, cells_in_drawing, grown_house, in_rows, small_houses, stairs,
                           text_of)
 
-SMALL = [(x, y) for y in range(3) for x in range(4)]
+SIZES = [(2, 1), (2, 2), (4, 1), (4, 3), (6, 2), (8, 1), (10, 5), (64, 64)]
 
 
 class Words(unittest.TestCase):
@@ -16,17 +15,18 @@ class Words(unittest.TestCase):
         text = text_of(cells)
         self.assertEqual(desk.faces(text), roof.faces_answer(), bytes(text))
         self.assertEqual(desk.lines(text), roof.lines_answer(), bytes(text))
-        for triangle in roof.triangles[::len(roof.triangles) // 9]:
+        self.assertEqual(desk.walls(text), roof.walls_answer(), bytes(text))
+        for n, triangle in enumerate(roof.triangles[::len(roof.triangles) // 9]):
             self.assertEqual(desk.face(*triangle, text), [roof.number[triangle]], (bytes(text), triangle))
+            self.assertEqual(desk.drop(*triangle, text), roof.drop_answer(triangle), (bytes(text), triangle))
+            k, size = n * 5 % len(roof.faces), SIZES[(n + len(cells)) % len(SIZES)]
+            self.assertEqual(desk.tiles(k, *size, text), roof.tiles_answer(k, *size), (bytes(text), k, size))
 
     def test_every_house_in_four_by_three_cells(self):
-        count = 0
-        for chosen in itertools.product((False, True), repeat=len(SMALL)):
-            cells = {cell for cell, is_in in zip(SMALL, chosen) if is_in}
-            if cells and is_house(cells):
-                self.check(cells)
-                count += 1
-        self.assertGreater(count, 500)
+        houses = small_houses(4, 3)
+        self.assertGreater(len(houses), 500)
+        for cells in houses:
+            self.check(cells)
 
     def test_grown_houses(self):
         for seed in range(60):
