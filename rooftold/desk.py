@@ -2,10 +2,10 @@
 
 from rooftold.plans import house_told
 from rooftold.rain import drop_row, wall_rows
-from rooftold.refusals import NoFace, OutOfBounds, Outside, answer_or_refusal
+from rooftold.refusals import NoFace, NoSize, OutOfBounds, Outside, answer_or_refusal
 from rooftold.ridges import line_rows
 from rooftold.roofs import Roof, face_rows
-from rooftold.tiling import is_size, places_on, whole_and_cut
+from rooftold.tiling import best_size_row, course_rows, is_size, places_on, roof_row, whole_and_cut
 
 GREATEST_HALF = 127
 GREATEST_SIDE = 3
@@ -46,6 +46,24 @@ def places_to_tile(k, W, H, t):
     return places_on(told.faces[k], told)
 
 
+def roof_to_tile(W, H, t):
+    check_size(W, H)
+    return roof_told(t)
+
+
+def roof_to_choose_for(pairs, t):
+    for W, H in pairs:
+        check_size(W, H)
+    told = roof_told(t)
+    if len(pairs) == 0:
+        raise NoSize()
+    return told
+
+
+def in_pairs(numbers):
+    return [(numbers[n], numbers[n + 1]) for n in range(0, len(numbers), 2)]
+
+
 def counted(rows):
     answer = [len(rows)]
     for row in rows:
@@ -75,3 +93,16 @@ def walls(t):
 
 def tiles(k, W, H, t):
     return answer_or_refusal(lambda: whole_and_cut(places_to_tile(k, W, H, t), W, H))
+
+
+def courses(k, W, H, t):
+    return answer_or_refusal(lambda: counted(course_rows(places_to_tile(k, W, H, t), W, H)))
+
+
+def roof(W, H, t):
+    return answer_or_refusal(lambda: roof_row(roof_to_tile(W, H, t), W, H))
+
+
+def size(t, sizes):
+    pairs = in_pairs(sizes)
+    return answer_or_refusal(lambda: best_size_row(roof_to_choose_for(pairs, t), pairs))

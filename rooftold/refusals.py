@@ -21,6 +21,11 @@ class NoFace(Exception):
     pass
 
 
+# There's no size to choose from.
+class NoSize(Exception):
+    pass
+
+
 # What a call answers: what tell gives back, or the refusal that it comes to first, as its number alone.
 def answer_or_refusal(tell):
     try:
@@ -33,3 +38,5 @@ def answer_or_refusal(tell):
         return [-5]
     except NoFace:
         return [-6]
+    except NoSize:
+        return [-7]

@@ -62,7 +62,8 @@ def answers_over(call, triangles, text, pool):
 def every_call(desk, text):
     """Each call's answer, all else than the text being right wherever there's a face and a first cell."""
     return [desk.faces(text), desk.face(0, 0, 0, text), desk.lines(text), desk.drop(0, 0, 0, text), desk.walls(text),
-            desk.tiles(0, 2, 1, text)]
+            desk.tiles(0, 2, 1, text), desk.courses(0, 2, 1, text), desk.roof(2, 1, text),
+            desk.size(text, [2, 1, 4, 2, 2, 1])]
 
 
 # --- plans
@@ -386,6 +387,29 @@ class LiteralRoof:
     def tiles_answer(self, k, wide, high):
         counts = self.tiles_on(k, wide, high).values()
         return [sum(count == 4 * wide * high for count in counts), sum(count < 4 * wide * high for count in counts)]
+
+    def courses_answer(self, k, wide, high):
+        tiles = self.tiles_on(k, wide, high)
+        count = max(course for course, number in tiles) + 1
+        answer = [count]
+        for q in range(count):
+            under = [tiles[tile] for tile in tiles if tile[0] == q]
+            whole = sum(triangles == 4 * wide * high for triangles in under)
+            answer += [whole, len(under) - whole, sum(under)]
+        return answer
+
+    def roof_answer(self, wide, high):
+        rows = [self.tiles_answer(k, wide, high) for k in range(len(self.faces))]
+        counts = [self.courses_answer(k, wide, high)[0] for k in range(len(self.faces))]
+        return [sum(whole for whole, cut in rows), sum(cut for whole, cut in rows), max(counts)]
+
+    def size_answer(self, sizes):
+        best = None
+        for n, size in enumerate(sizes):
+            whole, cut, courses = self.roof_answer(*size)
+            if best is None or whole + cut < best[1] + best[2] or (whole + cut == best[1] + best[2] and cut < best[2]):
+                best = [n, whole, cut]
+        return best
 
 
 def lies_on(point, corner, other):

@@ -41,6 +41,10 @@ class Examples(unittest.TestCase):
         self.assertEqual(desk.tiles(0, 3, 1, BLOCK), [-3])
         self.assertEqual(desk.tiles(4, 2, 1, BLOCK), [-6])
 
+    def test_courses_and_no_size(self):
+        self.assertEqual(desk.courses(0, 2, 1, BLOCK), [2, 2, 2, 28, 1, 2, 20])
+        self.assertEqual(desk.size(BLOCK, []), [-7])
+
     def test_face_of_each_triangle_of_one_cell(self):
         # By hand: the south face has (0, 0, 0), (0, 0, 1), (1, 0, 0) and (1, 0, 3), and so on round.
         told = {0: [(0, 0, 0), (0, 0, 1), (1, 0, 0), (1, 0, 3)],
@@ -58,6 +62,9 @@ class Examples(unittest.TestCase):
         self.assertEqual(desk.drop(i=3, j=3, s=0, t=T), [1, 4, 4, 3])
         self.assertEqual(desk.walls(t=O)[0], 4)
         self.assertEqual(desk.tiles(k=0, W=2, H=1, t=BLOCK), [3, 4])
+        self.assertEqual(desk.courses(k=0, W=2, H=1, t=BLOCK)[0], 2)
+        self.assertEqual(desk.roof(W=2, H=2, t=BLOCK), [4, 8, 1])
+        self.assertEqual(desk.size(t=BLOCK, sizes=[2, 1, 2, 2]), [1, 4, 8])
 
 
 if __name__ == "__main__":

@@ -22,7 +22,9 @@ class Untouchable(list):
     __setitem__ = __delitem__ = __iadd__ = __imul__ = refuse
 
 
-ARGUMENTS = {"faces": "t", "face": "i j s t", "lines": "t", "drop": "i j s t", "walls": "t", "tiles": "k W H t"}
+ARGUMENTS = {"faces": "t", "face": "i j s t", "lines": "t", "drop": "i j s t", "walls": "t", "tiles": "k W H t",
+             "courses": "k W H t", "roof": "W H t", "size": "t sizes"}
+SIZES = [2, 1, 64, 64, 4, 3, 2, 1]
 
 
 def calls(text):
@@ -30,7 +32,9 @@ def calls(text):
     return every_call(desk, text) + [
         desk.face(0, 0, 4, text), desk.face(127, 127, 3, text), desk.drop(128, 0, 0, text),
         desk.drop(127, 127, 3, text), desk.tiles(3, 64, 64, text), desk.tiles(0, 3, 1, text),
-        desk.tiles(4294967295, 2, 1, text)]
+        desk.tiles(4294967295, 2, 1, text), desk.courses(3, 4, 3, text), desk.courses(0, 3, 1, text),
+        desk.courses(4294967295, 2, 1, text), desk.roof(64, 64, text), desk.roof(0, 0, text), desk.size(text, SIZES),
+        desk.size(text, []), desk.size(text, SIZES + [3, 1])]
 
 
 class Manners(unittest.TestCase):
@@ -40,6 +44,13 @@ class Manners(unittest.TestCase):
             told = calls(list(text))
             self.assertEqual(calls(handed), told)
             self.assertEqual(list(handed), text)
+
+    def test_sizes_handed_in_are_not_changed(self):
+        for text in TEXTS:
+            for sizes in (SIZES, [], [2, 1], [2, 1, 3, 1], [2, 1] * 64):
+                handed = Untouchable(sizes)
+                self.assertEqual(desk.size(text, handed), desk.size(text, list(sizes)))
+                self.assertEqual(list(handed), sizes)
 
     def test_the_same_call_gives_the_same_answer(self):
         first = [calls(text) for text in TEXTS]

@@ -16,8 +16,11 @@ SIZES = ((2, 1), (2, 64), (64, 1), (64, 64), (4, 3), (62, 63))
 
 # The calls that take a triangle, a size, a face's number.
 OF_A_TRIANGLE = (desk.face, desk.drop)
-OF_A_SIZE = (lambda wide, high, text: desk.tiles(0, wide, high, text),)
-OF_A_FACE = (lambda k, text: desk.tiles(k, 2, 1, text),)
+OF_A_SIZE = (lambda wide, high, text: desk.tiles(0, wide, high, text),
+             lambda wide, high, text: desk.courses(0, wide, high, text),
+             desk.roof,
+             lambda wide, high, text: desk.size(text, [wide, high]))
+OF_A_FACE = (lambda k, text: desk.tiles(k, 2, 1, text), lambda k, text: desk.courses(k, 2, 1, text))
 
 
 class TriangleRefusals(unittest.TestCase):
@@ -92,6 +95,38 @@ class SizeRefusals(unittest.TestCase):
     def test_sizes_come_ahead_of_the_face(self):
         for size in NO_SIZES:
             self.assertEqual(desk.tiles(4294967295, *size, house_bytes("block")), [-3], size)
+            self.assertEqual(desk.courses(4294967295, *size, house_bytes("block")), [-3], size)
+
+
+class RowRefusals(unittest.TestCase):
+    def test_one_wrong_size_anywhere_in_the_row(self):
+        text = house_bytes("block")
+        for count in (1, 2, 3, 64):
+            for place in range(count):
+                for wrong in ((3, 1), (2, 0), (0, 1), (66, 1), (2, 65), (4294967295, 4294967295)):
+                    sizes = [2, 1] * count
+                    self.assertEqual(desk.size(text, sizes)[0], 0)
+                    sizes[2 * place:2 * place + 2] = wrong
+                    self.assertEqual(desk.size(text, sizes), [-3], (count, place, wrong))
+
+    def test_width_and_height_are_not_mistaken_for_each_other(self):
+        text = house_bytes("block")
+        self.assertEqual(desk.size(text, [1, 2]), [-3])
+        self.assertEqual(desk.size(text, [2, 1, 1, 2]), [-3])
+        self.assertEqual(desk.size(text, [4, 3, 2, 5])[0], 0)
+
+    def test_sizes_come_ahead_of_the_text(self):
+        for text in WRONG:
+            self.assertEqual(desk.size(text, [2, 1] * 63 + [2, 0]), [-3])
+            self.assertEqual(desk.size(text, [3, 1] + [2, 1] * 63), [-3])
+
+    def test_the_text_comes_ahead_of_an_empty_row(self):
+        for text in WRONG:
+            self.assertEqual(desk.size(text, []), [-1])
+
+    def test_an_empty_row(self):
+        for name in ("one cell", "courts", "256 cells"):
+            self.assertEqual(desk.size(house_bytes(name), []), [-7])
 
 
 class FaceNumberRefusals(unittest.TestCase):

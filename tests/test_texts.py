@@ -109,6 +109,7 @@ class NoHouse(unittest.TestCase):
     def refused(self, text, told):
         for answer in every_call(desk, text):
             self.assertEqual(answer, [-1], told)
+        self.assertEqual(desk.size(text, []), [-1], told)
 
     def test_wrong_shapes(self):
         for told, text in SHAPES.items():

@@ -46,7 +46,78 @@ class TilesOfFaces(unittest.TestCase):
                 self.check(self.roofs["256 cells"], (wide // 2 + high) % 4, wide, high)
 
 
+class Promise5(unittest.TestCase):
+    @classmethod
+    def setUpClass(cls):
+        cls.texts = {name: house_bytes(name) for name in HOUSES}
+        cls.texts.update({f"built {seed}": text_of(built_house(seed)) for seed in range(3)})
+
+    def of_each_face(self):
+        """Each face of each house, and its courses for several sizes."""
+        for name, text in self.texts.items():
+            for k, face in enumerate(in_rows(desk.faces(text), 6)):
+                for n in (0, 1, 2):
+                    wide, high = SIZES[(k + 3 * n) % len(SIZES)]
+                    courses = in_rows(desk.courses(k, wide, high, text), 3)
+                    yield (name, k, wide, high), face, courses
+
+    def test_a_faces_courses_have_all_its_triangles(self):
+        for told, face, courses in self.of_each_face():
+            self.assertEqual(sum(course[2] for course in courses), face[1], told)
+
+    def test_whole_tiles_are_full_and_cut_ones_are_not(self):
+        for told, face, courses in self.of_each_face():
+            full = 4 * told[2] * told[3]
+            for whole, cut, triangles in courses:
+                self.assertGreaterEqual(triangles, whole * full + cut, told)
+                self.assertLessEqual(triangles, whole * full + cut * (full - 1), told)
+
+    def test_each_course_from_0_on_has_some(self):
+        for told, face, courses in self.of_each_face():
+            self.assertGreater(len(courses), 0)
+            for whole, cut, triangles in courses:
+                self.assertGreater(whole + cut, 0, told)
+                self.assertGreater(triangles, 0, told)
+
+    def test_courses_and_tiles_agree(self):
+        for told, face, courses in self.of_each_face():
+            name, k, wide, high = told
+            together = [sum(course[0] for course in courses), sum(course[1] for course in courses)]
+            self.assertEqual(desk.tiles(k, wide, high, self.texts[name]), together, told)
+
+    def test_roof_is_the_sum_over_all_faces(self):
+        for n, (name, text) in enumerate(self.texts.items()):
+            count = desk.faces(text)[0]
+            for wide, high in (SIZES[n % len(SIZES)], SIZES[(n + 3) % len(SIZES)], SIZES[(n + 5) % len(SIZES)]):
+                tiles = [desk.tiles(k, wide, high, text) for k in range(count)]
+                most = max(desk.courses(k, wide, high, text)[0] for k in range(count))
+                told = [sum(whole for whole, cut in tiles), sum(cut for whole, cut in tiles), most]
+                self.assertEqual(desk.roof(wide, high, text), told, (name, wide, high))
+
+
 class ByHand(unittest.TestCase):
+    def test_courses_of_short_faces(self):
+        # 2 4 4 2 in course 0; 2 2 in course 1, shifted so that one tile lies over them.
+        self.assertEqual(desk.courses(1, 2, 1, house_bytes("block")), [2, 0, 2, 12, 0, 1, 4])
+        self.assertEqual(desk.courses(2, 2, 2, house_bytes("block")), [1, 0, 2, 16])
+
+    def test_roof_of_a_block(self):
+        # Two long faces, two short ones.
+        self.assertEqual(desk.roof(2, 1, house_bytes("block")), [3 + 3 + 0 + 0, 4 + 4 + 3 + 3, 2])
+        self.assertEqual(desk.roof(2, 2, house_bytes("block")), [2 + 2 + 0 + 0, 2 + 2 + 2 + 2, 1])
+
+    def test_the_most_courses(self):
+        # The highest half-cells of sixteen feet square lie fifteen deep.
+        for high, courses in ((1, 16), (2, 8), (3, 6), (5, 4), (15, 2), (16, 1), (64, 1)):
+            self.assertEqual(desk.roof(2, high, house_bytes("256 cells"))[2], courses)
+            self.assertEqual(desk.courses(3, 2, high, house_bytes("256 cells"))[0], courses)
+
+    def test_the_most_courses_are_not_the_first_faces(self):
+        # A low porch comes first, a high house behind it.
+        text = text_of(block(4, 0, 1, 1) | block(2, 1, 6, 6))
+        self.assertEqual(desk.courses(0, 2, 1, text)[0], 1)
+        self.assertEqual(desk.roof(2, 1, text)[2], 6)
+
     def test_tiles_are_counted_from_the_plans_edge_not_from_the_faces(self):
         # Of a tile four wide and two high a block from 0 on has two cut ones; from 1 on a whole one between two cut.
         for x in (0, 2, 60):

@@ -21,6 +21,10 @@ class Words(unittest.TestCase):
             self.assertEqual(desk.drop(*triangle, text), roof.drop_answer(triangle), (bytes(text), triangle))
             k, size = n * 5 % len(roof.faces), SIZES[(n + len(cells)) % len(SIZES)]
             self.assertEqual(desk.tiles(k, *size, text), roof.tiles_answer(k, *size), (bytes(text), k, size))
+            self.assertEqual(desk.courses(k, *size, text), roof.courses_answer(k, *size), (bytes(text), k, size))
+        self.assertEqual(desk.roof(*size, text), roof.roof_answer(*size), (bytes(text), size))
+        sizes = [SIZES[(len(cells) + n) % len(SIZES)] for n in (0, 3, 5)]
+        self.assertEqual(desk.size(text, sum(map(list, sizes), [])), roof.size_answer(sizes), (bytes(text), sizes))
 
     def test_every_house_in_four_by_three_cells(self):
         houses = small_houses(4, 3)
