@@ -1,5 +1,6 @@
 """The calls. Each gives back a list of whole numbers; a refusal is its number alone."""
 
+from rooftold.building import change_row, keeps_rows, lot_of
 from rooftold.plans import house_told
 from rooftold.rain import drop_row, wall_rows
 from rooftold.refusals import NoFace, NoSize, OutOfBounds, Outside, answer_or_refusal
@@ -31,6 +32,15 @@ def roof_with_triangle(i, j, s, t):
     if (i, j) not in told.depths:
         raise Outside()
     return told
+
+
+def lot_told(i, j, s, t, u):
+    check_triangle(i, j, s)
+    before = roof_told(t)
+    after = roof_told(u)
+    if (i, j) not in before.depths and (i, j) not in after.depths:
+        raise Outside()
+    return lot_of((i, j, s), before, after)
 
 
 def roof_with_face(k, t):
@@ -106,3 +116,15 @@ def roof(W, H, t):
 def size(t, sizes):
     pairs = in_pairs(sizes)
     return answer_or_refusal(lambda: best_size_row(roof_to_choose_for(pairs, t), pairs))
+
+
+def change(t, u):
+    return answer_or_refusal(lambda: change_row(roof_told(t), roof_told(u)))
+
+
+def lot(i, j, s, t, u):
+    return answer_or_refusal(lambda: [lot_told(i, j, s, t, u)])
+
+
+def keeps(t, u):
+    return answer_or_refusal(lambda: counted(keeps_rows(roof_told(t), roof_told(u))))

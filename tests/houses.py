@@ -8,6 +8,9 @@ from collections import Counter
 
 STEPS = {0: (0, -1), 1: (1, 0), 2: (0, 1), 3: (-1, 0)}
 
+# A house beside others, where a call takes two.
+SHED = list(b"0,0 2,0 2,1 0,1\n")
+
 # Texts written by hand, with the number of cells and of feet of wall that the plan has.
 HOUSES = {
     "one cell": ("0,0 1,0 1,1 0,1\n", 1, 4),
@@ -53,17 +56,20 @@ def in_rows(answer, width):
     return [tuple(answer[1 + n * width:1 + (n + 1) * width]) for n in range(answer[0])]
 
 
-def answers_over(call, triangles, text, pool):
-    """What a call of i, j, s and t answers for each of these triangles."""
-    columns = [[triangle[n] for triangle in triangles] for n in range(3)]
-    return dict(zip(triangles, pool.map(call, *columns, [text] * len(triangles), chunksize=128)))
+def answers_over(call, triangles, pool, *texts):
+    """What a call of i, j, s and one text or two answers for each of these triangles."""
+    columns = [[triangle[n] for triangle in triangles] for n in range(3)] + [[text] * len(triangles) for text in texts]
+    return dict(zip(triangles, pool.map(call, *columns, chunksize=128)))
 
 
 def every_call(desk, text):
-    """Each call's answer, all else than the text being right wherever there's a face and a first cell."""
+    """Each call's answer, all else than the text being right; that of a pair with the text in either place or both."""
     return [desk.faces(text), desk.face(0, 0, 0, text), desk.lines(text), desk.drop(0, 0, 0, text), desk.walls(text),
             desk.tiles(0, 2, 1, text), desk.courses(0, 2, 1, text), desk.roof(2, 1, text),
-            desk.size(text, [2, 1, 4, 2, 2, 1])]
+            desk.size(text, [2, 1, 4, 2, 2, 1]),
+            desk.change(text, text), desk.change(text, SHED), desk.change(SHED, text),
+            desk.lot(0, 0, 0, text, text), desk.lot(0, 0, 0, text, SHED), desk.lot(0, 0, 0, SHED, text),
+            desk.keeps(text, text), desk.keeps(text, SHED), desk.keeps(SHED, text)]
 
 
 # --- plans
@@ -187,7 +193,7 @@ def stairs():
 # --- heights, triangles, faces
 
 class LiteralRoof:
-    """The words on heights, triangles, faces, lines, rain and tiles, told over a set of cells."""
+    """The words from heights on to what's built on, told over a set of cells."""
 
     def __init__(self, cells):
         self.cells = cells
@@ -410,6 +416,25 @@ class LiteralRoof:
             if best is None or whole + cut < best[1] + best[2] or (whole + cut == best[1] + best[2] and cut < best[2]):
                 best = [n, whole, cut]
         return best
+
+    # --- built on
+
+    def lot(self, triangle, after):
+        """What becomes of a triangle of this roof or of the one after."""
+        i, j, s = triangle
+        if (i, j) in self.in_house and (i, j) in after.in_house:
+            as_deep = self.deep[(i, j)] == after.deep[(i, j)]
+            as_high = all(self.height(*end) == after.height(*end) for end in self.ends(i, j, s))
+            return 0 if as_deep and as_high else 1
+        return 2 if (i, j) in after.in_house else 3
+
+    def change_answer(self, after):
+        counts = Counter(self.lot(triangle, after) for triangle in {*self.triangles, *after.triangles})
+        return [counts[n] for n in range(4)]
+
+    def keeps_answer(self, after):
+        stay = [all(self.lot(triangle, after) == 0 for triangle in face) for face in self.faces]
+        return [len(stay)] + [int(stays) for stays in stay]
 
 
 def lies_on(point, corner, other):

@@ -7,6 +7,8 @@ from tests.houses import in_rows
 
 O = list(b"0,0 1,0 1,1 0,1\n")
 T = list(b"0,0 4,0 4,2 2,2 2,3 0,3\n")
+P = list(b"0,0 2,0 2,1 0,1\n")
+R = list(b"0,0 3,0 3,1 0,1\n")
 BLOCK = list(b"0,0 4,0 4,2 0,2\n")
 
 
@@ -45,6 +47,16 @@ class Examples(unittest.TestCase):
         self.assertEqual(desk.courses(0, 2, 1, BLOCK), [2, 2, 2, 28, 1, 2, 20])
         self.assertEqual(desk.size(BLOCK, []), [-7])
 
+    def test_built_on(self):
+        self.assertEqual(desk.change(O, O), [16, 0, 0, 0])
+        self.assertEqual(desk.change(P, R), [28, 4, 16, 0])
+        self.assertEqual(desk.change(R, P), [28, 4, 0, 16])
+        self.assertEqual(desk.keeps(P, R), [4, 1, 1, 0, 1])
+        self.assertEqual(desk.lot(3, 0, 1, P, R), [1])
+        self.assertEqual(desk.lot(4, 0, 0, P, R), [2])
+        self.assertEqual(desk.lot(0, 0, 0, P, R), [0])
+        self.assertEqual(desk.lot(6, 0, 0, P, R), [-5])
+
     def test_face_of_each_triangle_of_one_cell(self):
         # By hand: the south face has (0, 0, 0), (0, 0, 1), (1, 0, 0) and (1, 0, 3), and so on round.
         told = {0: [(0, 0, 0), (0, 0, 1), (1, 0, 0), (1, 0, 3)],
@@ -65,6 +77,9 @@ class Examples(unittest.TestCase):
         self.assertEqual(desk.courses(k=0, W=2, H=1, t=BLOCK)[0], 2)
         self.assertEqual(desk.roof(W=2, H=2, t=BLOCK), [4, 8, 1])
         self.assertEqual(desk.size(t=BLOCK, sizes=[2, 1, 2, 2]), [1, 4, 8])
+        self.assertEqual(desk.change(t=P, u=R), [28, 4, 16, 0])
+        self.assertEqual(desk.lot(i=4, j=0, s=0, t=P, u=R), [2])
+        self.assertEqual(desk.keeps(t=P, u=R), [4, 1, 1, 0, 1])
 
 
 if __name__ == "__main__":

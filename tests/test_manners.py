@@ -23,7 +23,8 @@ class Untouchable(list):
 
 
 ARGUMENTS = {"faces": "t", "face": "i j s t", "lines": "t", "drop": "i j s t", "walls": "t", "tiles": "k W H t",
-             "courses": "k W H t", "roof": "W H t", "size": "t sizes"}
+             "courses": "k W H t", "roof": "W H t", "size": "t sizes", "change": "t u", "lot": "i j s t u",
+             "keeps": "t u"}
 SIZES = [2, 1, 64, 64, 4, 3, 2, 1]
 
 
@@ -34,7 +35,8 @@ def calls(text):
         desk.drop(127, 127, 3, text), desk.tiles(3, 64, 64, text), desk.tiles(0, 3, 1, text),
         desk.tiles(4294967295, 2, 1, text), desk.courses(3, 4, 3, text), desk.courses(0, 3, 1, text),
         desk.courses(4294967295, 2, 1, text), desk.roof(64, 64, text), desk.roof(0, 0, text), desk.size(text, SIZES),
-        desk.size(text, []), desk.size(text, SIZES + [3, 1])]
+        desk.size(text, []), desk.size(text, SIZES + [3, 1]), desk.lot(0, 0, 4, text, text),
+        desk.lot(127, 127, 3, text, text)]
 
 
 class Manners(unittest.TestCase):
@@ -44,6 +46,16 @@ class Manners(unittest.TestCase):
             told = calls(list(text))
             self.assertEqual(calls(handed), told)
             self.assertEqual(list(handed), text)
+
+    def test_two_texts_handed_in_are_not_changed(self):
+        for t, u in zip(TEXTS, TEXTS[1:] + TEXTS[:1]):
+            first, second = Untouchable(t), Untouchable(u)
+            for one, other in ((first, second), (second, first), (first, first)):
+                told = [desk.change(list(one), list(other)), desk.keeps(list(one), list(other)),
+                        desk.lot(0, 0, 0, list(one), list(other))]
+                got = [desk.change(one, other), desk.keeps(one, other), desk.lot(0, 0, 0, one, other)]
+                self.assertEqual(got, told)
+            self.assertEqual((list(first), list(second)), (t, u))
 
     def test_sizes_handed_in_are_not_changed(self):
         for text in TEXTS:

@@ -24,7 +24,7 @@ class Promises(unittest.TestCase):
         cls.plans = {name: cells_of(name) for name in HOUSES}
         cls.plans.update({f"grown {n}": cells for n, cells in enumerate(GROWN)})
         with ProcessPoolExecutor() as pool:
-            cls.asked = {name: answers_over(desk.face, all_triangles(cells), text_of(cells), pool)
+            cls.asked = {name: answers_over(desk.face, all_triangles(cells), pool, text_of(cells))
                          for name, cells in cls.plans.items()}
         cls.faces = {name: in_rows(desk.faces(text_of(cells)), 6) for name, cells in cls.plans.items()}
 

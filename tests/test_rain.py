@@ -26,7 +26,7 @@ class Rain(unittest.TestCase):
         cls.plans = {name: cells_of(name) for name in HOUSES}
         cls.plans.update({f"grown {n}": cells for n, cells in enumerate(GROWN)})
         with ProcessPoolExecutor() as pool:
-            cls.drops = {name: answers_over(desk.drop, all_triangles(cells), text_of(cells), pool)
+            cls.drops = {name: answers_over(desk.drop, all_triangles(cells), pool, text_of(cells))
                          for name, cells in cls.plans.items()}
         cls.rows = {name: in_rows(desk.walls(text_of(cells)), 3) for name, cells in cls.plans.items()}
         cls.walls = {name: walls_along(walks_of(cells)) for name, cells in cls.plans.items()}

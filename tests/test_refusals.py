@@ -3,7 +3,7 @@
 import unittest
 
 from rooftold import desk
-from tests.houses import house_bytes
+from tests.houses import SHED, house_bytes
 
 GREAT = (128, 129, 255, 256, 65536, 4294967294, 4294967295)
 SIDES = (4, 5, 7, 8, 127, 4294967295)
@@ -15,7 +15,7 @@ NO_SIZES = ([(wide, 1) for wide in NO_WIDTHS] + [(2, high) for high in NO_HEIGHT
 SIZES = ((2, 1), (2, 64), (64, 1), (64, 64), (4, 3), (62, 63))
 
 # The calls that take a triangle, a size, a face's number.
-OF_A_TRIANGLE = (desk.face, desk.drop)
+OF_A_TRIANGLE = (desk.face, desk.drop, lambda i, j, s, text: desk.lot(i, j, s, text, text))
 OF_A_SIZE = (lambda wide, high, text: desk.tiles(0, wide, high, text),
              lambda wide, high, text: desk.courses(0, wide, high, text),
              desk.roof,
@@ -71,6 +71,34 @@ class TriangleRefusals(unittest.TestCase):
     def test_bounds_come_ahead_of_outside(self):
         for call in OF_A_TRIANGLE:
             self.assertEqual(call(2, 0, 4, house_bytes("one cell")), [-3])
+
+
+class PairRefusals(unittest.TestCase):
+    def test_either_text_or_both_wrong(self):
+        for wrong in WRONG:
+            for t, u in ((wrong, SHED), (SHED, wrong), (wrong, wrong)):
+                self.assertEqual(desk.change(t, u), [-1])
+                self.assertEqual(desk.keeps(t, u), [-1])
+                for triangle in ((0, 0, 0), (3, 1, 3), (4, 0, 0), (127, 127, 3)):
+                    self.assertEqual(desk.lot(*triangle, t, u), [-1])
+
+    def test_bounds_come_ahead_of_either_text(self):
+        for wrong in WRONG:
+            for t, u in ((wrong, SHED), (SHED, wrong), (wrong, wrong), (SHED, SHED)):
+                for great in GREAT:
+                    self.assertEqual(desk.lot(great, 0, 0, t, u), [-3])
+                    self.assertEqual(desk.lot(0, great, 0, t, u), [-3])
+                for side in SIDES:
+                    self.assertEqual(desk.lot(0, 0, side, t, u), [-3])
+                    self.assertEqual(desk.lot(127, 127, side, t, u), [-3])
+
+    def test_outside_is_what_is_in_neither(self):
+        last = house_bytes("last cell")
+        for t, u, there, other in ((SHED, last, 3, 2), (last, SHED, 2, 3)):
+            self.assertEqual(desk.lot(3, 1, 3, t, u), [there])
+            self.assertEqual(desk.lot(127, 127, 3, t, u), [other])
+            for triangle in ((4, 0, 0), (0, 2, 0), (125, 127, 3), (127, 125, 3), (127, 0, 0), (0, 127, 0)):
+                self.assertEqual(desk.lot(*triangle, t, u), [-5])
 
 
 class SizeRefusals(unittest.TestCase):
