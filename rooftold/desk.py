@@ -2,6 +2,7 @@
 
 from rooftold.building import change_row, keeps_rows, lot_of
 from rooftold.plans import house_told
+from rooftold.plots import free_cells
 from rooftold.rain import drop_row, wall_rows
 from rooftold.refusals import NoFace, NoSize, OutOfBounds, Outside, answer_or_refusal
 from rooftold.ridges import line_rows
@@ -54,6 +55,11 @@ def places_to_tile(k, W, H, t):
     check_size(W, H)
     told = roof_with_face(k, t)
     return places_on(told.faces[k], told)
+
+
+def free_cells_told(k, t):
+    told = roof_with_face(k, t)
+    return free_cells(told.faces[k], told)
 
 
 def roof_to_tile(W, H, t):
@@ -128,3 +134,7 @@ def lot(i, j, s, t, u):
 
 def keeps(t, u):
     return answer_or_refusal(lambda: counted(keeps_rows(roof_told(t), roof_told(u))))
+
+
+def free(k, t):
+    return answer_or_refusal(lambda: counted(free_cells_told(k, t)))

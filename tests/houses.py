@@ -69,7 +69,7 @@ def every_call(desk, text):
             desk.size(text, [2, 1, 4, 2, 2, 1]),
             desk.change(text, text), desk.change(text, SHED), desk.change(SHED, text),
             desk.lot(0, 0, 0, text, text), desk.lot(0, 0, 0, text, SHED), desk.lot(0, 0, 0, SHED, text),
-            desk.keeps(text, text), desk.keeps(text, SHED), desk.keeps(SHED, text)]
+            desk.keeps(text, text), desk.keeps(text, SHED), desk.keeps(SHED, text), desk.free(0, text)]
 
 
 # --- plans
@@ -103,6 +103,12 @@ def is_house(cells):
         edge = {(x + a, y + b) for x, y in edge for a, b in STEPS.values()} & cells - reached
         reached |= edge
     return reached == cells
+
+
+def cells_beside(cells):
+    """The cells of the plan that aren't in the house and are beside one of its cells."""
+    near = {(x + a, y + b) for x, y in cells for a, b in STEPS.values()} - cells
+    return {(x, y) for x, y in near if 0 <= x <= 63 and 0 <= y <= 63}
 
 
 def cell_beside(point, heading, turn):
@@ -190,10 +196,15 @@ def stairs():
     return lower | upper | {(60, 63), (61, 63), (62, 63)}
 
 
+def comb():
+    """A house of 256 cells with a tooth at every other foot, as wide as the plan."""
+    return block(0, 0, 64, 1) | {(x, y) for x in range(0, 64, 2) for y in range(1, 7)}
+
+
 # --- heights, triangles, faces
 
-class LiteralRoof:
-    """The words from heights on to what's built on, told over a set of cells."""
+class LiteralHeights:
+    """The words on how deep half-cells lie and how high points are, told over a set of cells."""
 
     def __init__(self, cells):
         self.cells = cells
@@ -202,12 +213,6 @@ class LiteralRoof:
         self.in_house = set(self.halves)
         self.high = {}
         self.deep = {half: self.depth(*half) for half in self.halves}
-        self.triangles = [(i, j, s) for i, j in self.halves for s in range(4)]
-        self.faces_to = {triangle: self.facing(*triangle) for triangle in self.triangles}
-        self.faces = self.make_faces()
-        self.number = {triangle: n for n, face in enumerate(self.faces) for triangle in face}
-        # Of each wall its corner and the next one, in feet.
-        self.walls = [(corner, walk[(n + 1) % len(walk)]) for walk in walks_of(cells) for n, corner in enumerate(walk)]
 
     def all_in(self, i_from, i_to, j_from, j_to):
         return all((i, j) in self.in_house for i in range(i_from, i_to + 1) for j in range(j_from, j_to + 1))
@@ -225,6 +230,19 @@ class LiteralRoof:
         while self.all_in(i - k - 1, i + k + 1, j - k - 1, j + k + 1):
             k += 1
         return k
+
+
+class LiteralRoof(LiteralHeights):
+    """The words from triangles on to what's built on, told over a set of cells."""
+
+    def __init__(self, cells):
+        super().__init__(cells)
+        self.triangles = [(i, j, s) for i, j in self.halves for s in range(4)]
+        self.faces_to = {triangle: self.facing(*triangle) for triangle in self.triangles}
+        self.faces = self.make_faces()
+        self.number = {triangle: n for n, face in enumerate(self.faces) for triangle in face}
+        # Of each wall its corner and the next one, in feet.
+        self.walls = [(corner, walk[(n + 1) % len(walk)]) for walk in walks_of(cells) for n, corner in enumerate(walk)]
 
     @staticmethod
     def ends(i, j, s):
@@ -435,6 +453,16 @@ class LiteralRoof:
     def keeps_answer(self, after):
         stay = [all(self.lot(triangle, after) == 0 for triangle in face) for face in self.faces]
         return [len(stay)] + [int(stays) for stays in stay]
+
+    def free_answers(self):
+        """What free answers for each face."""
+        free = [[] for face in self.faces]
+        for x, y in sorted(cells_beside(self.cells), key=lambda cell: (cell[1], cell[0])):
+            if is_house(self.cells | {(x, y)}):
+                stay = self.keeps_answer(LiteralHeights(self.cells | {(x, y)}))[1:]
+                for k, stays in enumerate(stay):
+                    free[k] += [(x, y)] * stays
+        return [[len(cells)] + [number for cell in cells for number in cell] for cells in free]
 
 
 def lies_on(point, corner, other):

@@ -57,6 +57,9 @@ class Examples(unittest.TestCase):
         self.assertEqual(desk.lot(0, 0, 0, P, R), [0])
         self.assertEqual(desk.lot(6, 0, 0, P, R), [-5])
 
+    def test_free_cells(self):
+        self.assertEqual(desk.free(1, P), [3, 2, 0, 0, 1, 1, 1])
+
     def test_face_of_each_triangle_of_one_cell(self):
         # By hand: the south face has (0, 0, 0), (0, 0, 1), (1, 0, 0) and (1, 0, 3), and so on round.
         told = {0: [(0, 0, 0), (0, 0, 1), (1, 0, 0), (1, 0, 3)],
@@ -80,6 +83,7 @@ class Examples(unittest.TestCase):
         self.assertEqual(desk.change(t=P, u=R), [28, 4, 16, 0])
         self.assertEqual(desk.lot(i=4, j=0, s=0, t=P, u=R), [2])
         self.assertEqual(desk.keeps(t=P, u=R), [4, 1, 1, 0, 1])
+        self.assertEqual(desk.free(k=1, t=P)[0], 3)
 
 
 if __name__ == "__main__":

@@ -143,6 +143,9 @@ class Language(unittest.TestCase):
             given = node.args
             self.fine(not (given.vararg or given.kwarg or given.kwonlyargs or given.posonlyargs), path, node, "L4")
             self.fine(not getattr(node, "decorator_list", []), path, node, "L4")
+        for path in FILES:
+            rows = [node.lineno for where, node in nodes(ast.Lambda) if where == path]
+            self.assertEqual(len(rows), len(set(rows)), f"L13 {path.name}")
         for path, tree in trees().items():
             for node in ast.walk(tree):
                 if isinstance(node, ast.ClassDef):

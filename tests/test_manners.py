@@ -24,7 +24,7 @@ class Untouchable(list):
 
 ARGUMENTS = {"faces": "t", "face": "i j s t", "lines": "t", "drop": "i j s t", "walls": "t", "tiles": "k W H t",
              "courses": "k W H t", "roof": "W H t", "size": "t sizes", "change": "t u", "lot": "i j s t u",
-             "keeps": "t u"}
+             "keeps": "t u", "free": "k t"}
 SIZES = [2, 1, 64, 64, 4, 3, 2, 1]
 
 
@@ -36,7 +36,7 @@ def calls(text):
         desk.tiles(4294967295, 2, 1, text), desk.courses(3, 4, 3, text), desk.courses(0, 3, 1, text),
         desk.courses(4294967295, 2, 1, text), desk.roof(64, 64, text), desk.roof(0, 0, text), desk.size(text, SIZES),
         desk.size(text, []), desk.size(text, SIZES + [3, 1]), desk.lot(0, 0, 4, text, text),
-        desk.lot(127, 127, 3, text, text)]
+        desk.lot(127, 127, 3, text, text), desk.free(3, text), desk.free(4294967295, text)]
 
 
 class Manners(unittest.TestCase):

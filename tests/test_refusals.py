@@ -20,7 +20,7 @@ OF_A_SIZE = (lambda wide, high, text: desk.tiles(0, wide, high, text),
              lambda wide, high, text: desk.courses(0, wide, high, text),
              desk.roof,
              lambda wide, high, text: desk.size(text, [wide, high]))
-OF_A_FACE = (lambda k, text: desk.tiles(k, 2, 1, text), lambda k, text: desk.courses(k, 2, 1, text))
+OF_A_FACE = (lambda k, text: desk.tiles(k, 2, 1, text), lambda k, text: desk.courses(k, 2, 1, text), desk.free)
 
 
 class TriangleRefusals(unittest.TestCase):
